@@ -1,0 +1,1 @@
+"""Escrowbook: amounts set aside for pacts that may fall through."""
