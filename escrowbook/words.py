@@ -1,4 +1,4 @@
-"""What a name is and what an amount is."""
+"""What a name is, what a whole number is, and what an amount is."""
 
 from escrowbook.errors import NoAmount, NoName
 
@@ -8,7 +8,7 @@ GREATEST_AMOUNT = 10 ** 30
 
 def name_of(thing):
     """The thing, where it is a name; any other thing is refused with NoName."""
-    if not _is_name(thing):
+    if not is_name(thing):
         # The thing is not shown: to write out any thing whatever may itself fail.
         raise NoName("a name is a text of one to twelve small letters, a to z")
     return thing
@@ -22,7 +22,8 @@ def amount_of(thing):
     return thing
 
 
-def _is_name(thing):
+def is_name(thing):
+    """Whether the thing is a name; any thing may be handed in."""
     # The exact kind is asked for, so that nothing that only passes for a text gets in.
     if type(thing) != str:
         return False
@@ -35,8 +36,11 @@ def _is_name(thing):
     return True
 
 
-def _is_amount(thing):
+def is_whole(thing):
+    """Whether the thing is a whole number; any thing may be handed in."""
     # The exact kind is asked for, because True and False pass for 1 and 0.
-    if type(thing) != int:
-        return False
-    return 1 <= thing <= GREATEST_AMOUNT
+    return type(thing) == int
+
+
+def _is_amount(thing):
+    return is_whole(thing) and 1 <= thing <= GREATEST_AMOUNT

@@ -1,11 +1,9 @@
 """Tests that the package keeps what can be checked simply of LANGUAGE.md, and of that check."""
 
-import ast
 import pathlib
 import tempfile
 import unittest
 
-from tests.interface import INTERFACE
 from tests.language import faults_of_folder, faults_of_source
 
 PACKAGE = pathlib.Path(__file__).resolve().parent.parent / "escrowbook"
@@ -14,14 +12,6 @@ PACKAGE = pathlib.Path(__file__).resolve().parent.parent / "escrowbook"
 class PackageTest(unittest.TestCase):
     def test_the_package_keeps_the_rules(self):
         self.assertEqual(faults_of_folder(PACKAGE), [])
-
-    def test_the_interface_is_defined_in_the_files_that_it_names(self):
-        for file, names in INTERFACE.items():
-            rows = ast.parse((PACKAGE / file).read_bytes()).body
-            defined = [row.name for row in rows if isinstance(row, (ast.FunctionDef, ast.ClassDef))]
-            for name in names:
-                with self.subTest(file, name=name):
-                    self.assertEqual(defined.count(name), 1)
 
 
 class FolderTest(unittest.TestCase):

@@ -6,7 +6,7 @@ import unittest
 
 from escrowbook import errors
 from escrowbook.words import amount_of, name_of
-from tests.interface import REFUSALS
+from tests.refusing import NEITHER, Number, RefusedTest, Text
 
 MOST = 10 ** 30
 
@@ -16,64 +16,6 @@ OTHER_SIGNS = (
     "\u00e4", "\u00df", "\u00aa", "\u0131", "\u017f", "\u03b1", "\u0430", "\uff41", "\u0301",
     "\u200b", "\ufeff", "\ud800", "\U0001d41a", "\U0001f600",
 )
-
-
-class Text(str):
-    """Passes for a text, but is of a kind of its own."""
-
-    def __len__(self):
-        return 3
-
-    def __iter__(self):
-        return iter("abc")
-
-
-class Number(int):
-    """Passes for a whole number, but is of a kind of its own."""
-
-    def __ge__(self, other):
-        return True
-
-    def __le__(self, other):
-        return True
-
-
-class Mute:
-    """Can be neither shown, nor compared, nor counted, nor told apart."""
-
-    __hash__ = None
-
-    def refuse(self, *rest):
-        raise RuntimeError("not to be asked")
-
-    __repr__ = __str__ = __eq__ = __lt__ = __gt__ = __le__ = __ge__ = refuse
-    __len__ = __iter__ = __bool__ = __int__ = __index__ = __getattr__ = refuse
-
-
-# Of no kind that has either names or amounts in it.
-NEITHER = (
-    True, False, None, 0.0, 1.0, 2.5, float("nan"), float("inf"), 1j, b"", b"a", b"abc",
-    bytearray(b"abc"), [], ["abc"], [1], (), ("abc",), (1,), {}, {"abc": 1}, {1: "abc"}, set(),
-    {"abc"}, {1}, range(1, 2), str, int, len, object(), Mute(), iter("abc"), ["a", "b", "c"],
-    NotImplemented, ...,
-)
-
-
-class RefusedTest(unittest.TestCase):
-    def assert_refused(self, kind, asked, thing):
-        """The thing is refused with this kind, and with no other of the kinds."""
-        try:
-            asked(thing)
-        except Exception as refusal:
-            caught = refusal
-        else:
-            self.fail("not refused")
-        self.assertIs(type(caught), kind)
-        self.assertIsInstance(caught, errors.BookError)
-        self.assertIsInstance(caught, ValueError)
-        for name in REFUSALS:
-            if getattr(errors, name) is not kind:
-                self.assertNotIsInstance(caught, getattr(errors, name))
 
 
 class NameTest(RefusedTest):
